@@ -1,0 +1,1 @@
+"""Sweetsring: sweets that are passed round in a ring of children."""
