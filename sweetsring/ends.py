@@ -4,10 +4,10 @@ from sweetsring.games import rings
 from sweetsring.rounds import check_sweets, count_lacking, fill_up, play_round
 
 
-def rows_to_end(game, sweets):
-    """The numbers at first, behind the first round and so on, up to those that change no more."""
-    rows = [sweets]
-    following = play_round(game, sweets)
+def rows_to_end(game, numbers):
+    """The numbers at first, behind the first round and so on, up to those that change no more, of any size."""
+    rows = [numbers]
+    following = play_round(game, numbers)
     # This ends: the least number of a ring that is not alike rises, or fewer have it, and the greatest never rises.
     while following != rows[-1]:
         rows.append(following)
@@ -15,12 +15,17 @@ def rows_to_end(game, sweets):
     return rows
 
 
+def find_end(game, numbers):
+    """What end returns, of numbers of any size."""
+    rows = rows_to_end(game, numbers)
+    spent = sum([count_lacking(game, row) for row in rows[:-1]])
+    return (rows[-1], len(rows) - 1, spent)
+
+
 def end(game, sweets):
     """The tuple of the numbers that change no more, of the rounds until then, and of the sweets filled up."""
     check_sweets(game, sweets)
-    rows = rows_to_end(game, sweets)
-    spent = sum([count_lacking(game, row) for row in rows[:-1]])
-    return (rows[-1], len(rows) - 1, spent)
+    return find_end(game, sweets)
 
 
 def ring_level(ring, numbers):

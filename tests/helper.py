@@ -3,7 +3,9 @@
 import unittest
 from random import Random
 
+from sweetsring.errors import BadSweets
 from sweetsring.games import Game
+from sweetsring.parties import Party
 
 
 def nested(kind, depth):
@@ -68,10 +70,36 @@ def slow_rings(game):
     return found
 
 
+def slow_rows(game, sweets):
+    """The rows from these sweets to those that change no more, gift by gift."""
+    rows = [sweets]
+    while slow_round(game, rows[-1]) != rows[-1]:
+        rows.append(slow_round(game, rows[-1]))
+    return rows
+
+
+def first_bad(value, children, most):
+    """What [4] and [6] say of a value as a row: the wrong index, None for all of it, "fine" for a good one."""
+    if not isinstance(value, tuple) or len(value) != children:
+        return None
+    for index, number in enumerate(value):
+        if number.__class__ is not int or number < 0 or most is not None and number > most:
+            return index
+    return "fine"
+
+
+def shown_value(value):
+    """One value as shown tells it."""
+    if isinstance(value, Game):
+        return (value.children, value.parts, value.steps)
+    if isinstance(value, Party):
+        return (shown_value(value.game), value.sweets, value.spent, len(value))
+    return value
+
+
 def shown(arguments):
-    """The arguments as a text that tells True from 1, lists from tuples, and what games hold."""
-    return repr([(value.children, value.parts, value.steps) if isinstance(value, Game) else value
-                 for value in arguments])
+    """The arguments as a text that tells True from 1, lists from tuples, and what games and parties hold."""
+    return repr([shown_value(value) for value in arguments])
 
 
 class SweetCase(unittest.TestCase):
@@ -95,3 +123,19 @@ class SweetCase(unittest.TestCase):
         for _ in range(2):
             self.assertEqual(repr(expected), repr(call(*arguments)))
             self.assertEqual(before, shown(arguments))
+
+    def check_bad_sweets(self, call, game=Game(3, 2, (1,))):
+        """Point [4]: of all kinds of wrong sweets the call, of a game of three children and sweets, tells the index."""
+        great = 10 ** 30
+        for value in ([1, 2, 6], {0: 1, 1: 2, 2: 6}, (), (1, 2), (1, 2, 6, 0), ("a", None), "abc"):
+            self.check_raises(BadSweets, ("index", None), call, game, value)
+        for value in (-1, great + 1, -great, True, False, None, "1", (1,), [1], {1: 1}):
+            self.check_raises(BadSweets, ("index", 0), call, game, (value, value, great))
+            self.check_raises(BadSweets, ("index", 1), call, game, (0, value, None))
+            self.check_raises(BadSweets, ("index", 2), call, game, (great, 1, value))
+        for value in ANY_VALUES:
+            index = first_bad(value, 3, great)
+            if index != "fine":
+                self.check_raises(BadSweets, ("index", index), call, game, value)
+            if value.__class__ is not int or not 0 <= value <= great:
+                self.check_raises(BadSweets, ("index", 1), call, game, (0, value, 6))

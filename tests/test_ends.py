@@ -1,19 +1,11 @@
 from sweetsring import ends
 from sweetsring.ends import end, levels
-from sweetsring.errors import BadSweets
 from sweetsring.games import Game
 from sweetsring.rounds import after, is_still
-from tests.helper import ANY_VALUES, GAMES, SweetCase, slow_fill, slow_rings, slow_round, some_sweets
+from tests.helper import GAMES, SweetCase, slow_fill, slow_rings, slow_rows, some_sweets
 
 GAME = Game(3, 2, (1,))
 GREAT = 10 ** 30
-
-
-def slow_rows(game, sweets):
-    rows = [sweets]
-    while slow_round(game, rows[-1]) != rows[-1]:
-        rows.append(slow_round(game, rows[-1]))
-    return rows
 
 
 def slow_end(game, sweets):
@@ -36,26 +28,9 @@ def slow_levels(game, sweets):
 class BadSweetsTest(SweetCase):
     """Point [4], for the functions of this file."""
 
-    def check_sweets(self, index, game, sweets):
-        self.check_raises(BadSweets, ("index", index), end, game, sweets)
-        self.check_raises(BadSweets, ("index", index), levels, game, sweets)
-
-    def test_as_a_whole(self):
-        for value in (None, True, 3, "abc", [1, 2, 6], (), (1, 2), (1, 2, 6, 0), {0: 1, 1: 2, 2: 6}):
-            self.check_sweets(None, GAME, value)
-
-    def test_first_bad_number(self):
-        for value in (-1, GREAT + 1, True, False, None, "1", (1,), [1], {1: 1}):
-            self.check_sweets(0, GAME, (value, value, 6))
-            self.check_sweets(1, GAME, (0, value, None))
-            self.check_sweets(2, GAME, (1, GREAT, value))
-
-    def test_any_value(self):
-        for value in ANY_VALUES:
-            if not isinstance(value, tuple) or len(value) != 3:
-                self.check_sweets(None, GAME, value)
-            if value.__class__ is not int or not 0 <= value <= GREAT:
-                self.check_sweets(1, GAME, (0, value, 6))
+    def test_bad_sweets(self):
+        self.check_bad_sweets(end)
+        self.check_bad_sweets(levels)
 
 
 class EndTest(SweetCase):

@@ -2,21 +2,11 @@ from sweetsring import rounds
 from sweetsring.errors import BadRounds, BadRows, BadSweets
 from sweetsring.games import Game
 from sweetsring.rounds import after, filled, first_wrong, is_still, lacking
-from tests.helper import ANY_VALUES, GAMES, SweetCase, slow_fill, slow_rings, slow_round, some_sweets
+from tests.helper import ANY_VALUES, GAMES, SweetCase, first_bad, slow_fill, slow_rings, slow_round, some_sweets
 
 GAME = Game(3, 2, (1,))
 GREAT = 10 ** 30
 SWEETS_CALLS = (filled, lacking, after, is_still)
-
-
-def first_bad(value, children, most):
-    """What [4] and [6] say of a value as a row: the wrong index, None for all of it, "fine" for a good one."""
-    if not isinstance(value, tuple) or len(value) != children:
-        return None
-    for index, number in enumerate(value):
-        if number.__class__ is not int or number < 0 or most is not None and number > most:
-            return index
-    return "fine"
 
 
 class SweetsTest(SweetCase):
